@@ -1,0 +1,1 @@
+"""Checks of translations: which rules of an office a sentence and its translation break."""
