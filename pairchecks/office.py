@@ -1,8 +1,10 @@
 """The calls on one set of checks, and their answers."""
 
+from pairchecks.choices import fewest_in_each
 from pairchecks.conditions import breaks, read_check
 from pairchecks.reading import Reader
-from pairchecks.sentences import are_letters, are_small, can_be_searched, is_sentence, sentences_in_order
+from pairchecks.sentences import are_letters, are_small, can_be_searched, is_sentence
+from pairchecks.sentences import pairs_in_order, sentences_in_order
 from pairchecks.terms import read_term, term_value
 
 CHECK = 0
@@ -11,11 +13,16 @@ LETTERS = 2
 RUN = 3
 VALUE = 4
 FINE = 5
+ALONE = 6
+APART = 7
+CLASH = 8
+EACH = 9
+CHECKS = 10
 
 BEYOND_BOUNDS = -1
 NO_SUCH_CHECK = -2
 NO_ROOM = -5
-NO_PAIR = -6
+NOTHING_FOUND = -6
 
 MOST_CHECKS = 8
 
@@ -57,8 +64,7 @@ class Office:
     def run(self, sentence, translation):
         if not (is_sentence(sentence) and is_sentence(translation)):
             return [BEYOND_BOUNDS]
-        broken = self.broken_by((sentence, translation))
-        return [len(broken)] + broken
+        return counted(self.broken_by((sentence, translation)))
 
     def value(self, sentence, translation, term):
         if not (is_sentence(sentence) and is_sentence(translation) and are_small(term)):
@@ -66,14 +72,52 @@ class Office:
         return [term_value(read_term(Reader(term)), (sentence, translation))]
 
     def fine(self, most_words):
+        return self.first_pair(most_words, lambda pair: self.is_kept_by(pair))
+
+    def alone(self, number, most_words):
+        if number not in self.kept:
+            return [NO_SUCH_CHECK]
+        return self.first_pair(most_words, lambda pair: self.broken_by(pair) == [number])
+
+    def apart(self, number, other, most_words):
+        if number not in self.kept or other not in self.kept:
+            return [NO_SUCH_CHECK]
+        one = self.kept[number]
+        two = self.kept[other]
+        return self.first_pair(most_words, lambda pair: breaks(pair, one) != breaks(pair, two))
+
+    def clash(self, most_words):
         if not can_be_searched(self.alphabet, most_words):
             return [BEYOND_BOUNDS]
-        sentences = sentences_in_order(self.alphabet, most_words)
-        for sentence in sentences:
-            for translation in sentences:
-                if self.is_kept_by((sentence, translation)):
-                    return told(sentence) + told(translation)
-        return [NO_PAIR]
+        # Many pairs break the same checks: a dict keeps each such row once.
+        broken = {}
+        for pair in pairs_in_order(self.alphabet, most_words):
+            broken[tuple(self.broken_by(pair))] = True
+        fewest = fewest_in_each(list(broken), list(self.kept))
+        if fewest is None:
+            return [NOTHING_FOUND]
+        return counted(fewest)
+
+    def each(self, most_words, sentence):
+        if not (can_be_searched(self.alphabet, most_words) and is_sentence(sentence)):
+            return [BEYOND_BOUNDS]
+        translations = sentences_in_order(self.alphabet, most_words)
+        keeping = [translation for translation in translations if self.is_kept_by((sentence, translation))]
+        answer = [len(keeping)]
+        for translation in keeping:
+            answer.extend(counted(translation))
+        return answer
+
+    def checks(self):
+        return counted(list(self.kept))
+
+    def first_pair(self, most_words, is_sought):
+        if not can_be_searched(self.alphabet, most_words):
+            return [BEYOND_BOUNDS]
+        for pair in pairs_in_order(self.alphabet, most_words):
+            if is_sought(pair):
+                return counted(pair[0]) + counted(pair[1])
+        return [NOTHING_FOUND]
 
     def broken_by(self, pair):
         return [number for number, check in self.kept.items() if breaks(pair, check)]
@@ -86,8 +130,8 @@ class Office:
         return True
 
 
-def told(sentence):
-    return [len(sentence)] + sentence
+def counted(row):
+    return [len(row)] + row
 
 
 def answers(calls):
@@ -95,9 +139,7 @@ def answers(calls):
     reader = Reader(calls)
     answered = []
     while not reader.at_end():
-        answer = answer_call(office, reader)
-        answered.append(len(answer))
-        answered.extend(answer)
+        answered.extend(counted(answer_call(office, reader)))
     return answered
 
 
@@ -111,9 +153,9 @@ def answer_call(office, reader):
         return office.letters(reader.row())
     if call == RUN or call == VALUE:
         return answer_about_pair(call, office, reader)
-    if call == FINE:
-        return office.fine(reader.number())
-    raise UnknownCall(f"no call {call}")
+    if call == CHECKS:
+        return office.checks()
+    return answer_search(call, office, reader)
 
 
 def answer_about_pair(call, office, reader):
@@ -122,3 +164,21 @@ def answer_about_pair(call, office, reader):
     if call == RUN:
         return office.run(sentence, translation)
     return office.value(sentence, translation, reader.row())
+
+
+def answer_search(call, office, reader):
+    if call == FINE:
+        return office.fine(reader.number())
+    if call == ALONE:
+        number = reader.number()
+        return office.alone(number, reader.number())
+    if call == APART:
+        number = reader.number()
+        other = reader.number()
+        return office.apart(number, other, reader.number())
+    if call == CLASH:
+        return office.clash(reader.number())
+    if call == EACH:
+        most_words = reader.number()
+        return office.each(most_words, reader.row())
+    raise UnknownCall(f"no call {call}")

@@ -1,4 +1,4 @@
-"""Sentences: their bounds, and all those of some letters in order."""
+"""Sentences: their bounds, and all those of some letters, and all pairs of these, in order."""
 
 LARGEST_WORD = 99
 MOST_WORDS = 20
@@ -63,3 +63,12 @@ def one_word_longer(sentences, letters):
         for letter in letters:
             longer.append(sentence + [letter])
     return longer
+
+
+def pairs_in_order(letters, most_words):
+    sentences = sentences_in_order(letters, most_words)
+    pairs = []
+    for sentence in sentences:
+        for translation in sentences:
+            pairs.append((sentence, translation))
+    return pairs

@@ -1,11 +1,16 @@
 """Terms, conditions and calls as the lists that are handed in, and a list of calls asked at once."""
 
+import itertools
+
 from pairchecks.office import answers
 
 LARGEST = 4294967295
 
 ALWAYS = [0]
 NEVER = [1]
+
+# The numbers of fine, alone, apart, clash and each.
+SEARCHES = range(5, 10)
 
 
 def number(k):
@@ -65,6 +70,7 @@ def counted(row):
 
 
 def check(when, must):
+    assert len(when + must) <= 200, "not to be handed in"
     return [0] + counted(when + must)
 
 
@@ -88,8 +94,75 @@ def fine(n):
     return [5, n]
 
 
+def alone(which, n):
+    return [6, which, n]
+
+
+def apart(which, other, n):
+    return [7, which, other, n]
+
+
+def clash(n):
+    return [8, n]
+
+
+def each(n, sentence):
+    return [9, n] + counted(sentence)
+
+
+def checks():
+    return [10]
+
+
+def asked_of(condition):
+    """A check that asks this of every pair."""
+    return check(ALWAYS, condition)
+
+
+def is_exactly(side, words):
+    """A condition that just this sentence of at most two words meets on this side."""
+    condition = same(length(side), number(len(words)))
+    if words:
+        condition = both(condition, begins(side, words[0]))
+    if len(words) > 1:
+        condition = both(condition, ends(side, words[1]))
+    return condition
+
+
+def is_pair(sentence, translation):
+    return both(is_exactly(0, sentence), is_exactly(1, translation))
+
+
+def any_of(conditions):
+    """One of these conditions at least, nested by halves, so that it is not deep."""
+    if len(conditions) < 2:
+        return conditions[0] if conditions else NEVER
+    middle = len(conditions) // 2
+    return either(any_of(conditions[:middle]), any_of(conditions[middle:]))
+
+
+def broken_at(*pairs):
+    """A check that just these pairs break (each of at most two words on a side)."""
+    return check(any_of([is_pair(*pair) for pair in pairs]), NEVER)
+
+
+def told(pair):
+    """A pair as it is answered."""
+    return counted(pair[0]) + counted(pair[1])
+
+
+def sentences(row, n):
+    """All sentences of these letters with n words at most, in order."""
+    return [list(words) for size in range(n + 1) for words in itertools.product(row, repeat=size)]
+
+
+def pairs(row, n):
+    return list(itertools.product(sentences(row, n), repeat=2))
+
+
 def ask(*calls):
     """Hand in these calls as one list and give back one list of numbers for each call."""
+    assert 1 <= len(calls) <= 30 and sum(call[0] in SEARCHES for call in calls) <= 8, "not to be handed in"
     handed = [entry for call in calls for entry in call]
     rest = answers(handed)
     answered = []

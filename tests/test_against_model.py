@@ -4,7 +4,8 @@ import itertools
 import random
 import unittest
 
-from tests.helper import ask, check, fine, gone, letters, run, value
+from tests.helper import (
+    SEARCHES, alone, apart, ask, check, checks, clash, counted, each, fine, gone, letters, run, value)
 
 TERM_PARTS = {0: "n", 1: "s", 2: "sn", 3: "tt", 4: "nt"}
 CONDITION_PARTS = {
@@ -99,14 +100,49 @@ class Model:
             return [-1]
         return [term_of(term, (sentence, translation))]
 
-    def fine(self, n):
+    def rows(self, n):
+        """All sentences in order, or nothing at all where they may not be asked for."""
         if n > 4 or sum(len(self.letters) ** size for size in range(n + 1)) > 31:
-            return [-1]
+            return []
         rows = [list(row) for size in range(n + 1) for row in itertools.product(self.letters, repeat=size)]
-        for sentence, translation in itertools.product(sorted(rows, key=lambda row: (len(row), row)), repeat=2):
-            if not self.broken((sentence, translation)):
-                return [len(sentence)] + sentence + [len(translation)] + translation
-        return [-6]
+        return sorted(rows, key=lambda row: (len(row), row))
+
+    def first(self, n, is_it):
+        for sentence, translation in itertools.product(self.rows(n), repeat=2):
+            if is_it(self.broken((sentence, translation))):
+                return counted(sentence) + counted(translation)
+        return [-6] if self.rows(n) else [-1]
+
+    def fine(self, n):
+        return self.first(n, lambda broken: not broken)
+
+    def alone(self, which, n):
+        if which not in self.checks_told()[1:]:
+            return [-2]
+        return self.first(n, lambda broken: set(broken) == {which})
+
+    def apart(self, which, other, n):
+        if not {which, other} <= set(self.checks_told()[1:]):
+            return [-2]
+        return self.first(n, lambda broken: len({which, other} & set(broken)) == 1 and which != other)
+
+    def clash(self, n):
+        if not self.rows(n):
+            return [-1]
+        broken = {frozenset(self.broken(pair)) for pair in itertools.product(self.rows(n), repeat=2)}
+        told = self.checks_told()[1:]
+        subsets = [[which for place, which in enumerate(told) if mask >> place & 1] for mask in range(2 ** len(told))]
+        clashing = [subset for subset in subsets if all(entry & set(subset) for entry in broken)]
+        return counted(min(clashing, key=lambda subset: (len(subset), subset))) if clashing else [-6]
+
+    def each(self, n, sentence):
+        if not self.rows(n) or self.run(sentence, []) == [-1]:
+            return [-1]
+        keeping = [row for row in self.rows(n) if not self.broken((sentence, row))]
+        return [len(keeping)] + flat([counted(row) for row in keeping])
+
+    def checks_told(self):
+        return [len(self.checks)] + [entry[0] for entry in self.checks]
 
 
 def draw_sentence(source):
@@ -133,21 +169,43 @@ def spoil(source, nested):
     return nested if nested[0] == 1 else nested[:-1] + [source.choice([99, 100])]
 
 
-def draw_call(source, model):
-    """A call as it is handed in, and what the model answers to it."""
-    kind = source.choice(["check", "check", "check", "gone", "letters", "run", "run", "run", "value", "fine"])
+def draw_search(source, model):
+    n = source.choice([0, 1, 2, 2, 2, 3, 3, 4, 4, 5])
+    which, other = source.randrange(model.given + 1), source.randrange(model.given + 1)
+    kind = source.choice(["fine", "alone", "apart", "clash", "each"])
+    if kind == "fine":
+        return fine(n), model.fine(n)
+    if kind == "alone":
+        return alone(which, n), model.alone(which, n)
+    if kind == "apart":
+        return apart(which, other, n), model.apart(which, other, n)
+    if kind == "clash":
+        return clash(n), model.clash(n)
+    sentence = draw_sentence(source)
+    return each(n, sentence), model.each(n, sentence)
+
+
+def draw_change(source, model, kind):
     if kind == "check":
         parts = [spoil(source, draw(source, "c", source.randrange(1, 5))) for _ in range(2)]
         return check(flat(parts[0]), flat(parts[1])), model.check(*parts)
     if kind == "gone":
         which = source.randrange(model.given + 1)
         return gone(which), model.gone(which)
-    if kind == "letters":
-        row = draw_letters(source)
-        return letters(row), model.choose(row)
-    if kind == "fine":
-        n = source.choice([0, 1, 2, 2, 2, 3, 3, 4, 4, 5])
-        return fine(n), model.fine(n)
+    row = draw_letters(source)
+    return letters(row), model.choose(row)
+
+
+def draw_call(source, model):
+    """A call as it is handed in, and what the model answers to it."""
+    kind = source.choice(
+        ["check", "check", "check", "check", "gone", "letters", "run", "run", "value", "checks", "search", "search"])
+    if kind in ("check", "gone", "letters"):
+        return draw_change(source, model, kind)
+    if kind == "search":
+        return draw_search(source, model)
+    if kind == "checks":
+        return checks(), model.checks_told()
     sentence, translation = draw_sentence(source), draw_sentence(source)
     if kind == "run":
         return run(sentence, translation), model.run(sentence, translation)
@@ -155,12 +213,49 @@ def draw_call(source, model):
     return value(sentence, translation, flat(term)), model.value(sentence, translation, term)
 
 
+def draw_list(source):
+    """1 to 30 calls with what the model answers, at most 8 of them searches."""
+    model = Model()
+    drawn = []
+    searches = 0
+    for _ in range(source.randrange(1, 31)):
+        call, answer = draw_call(source, model)
+        searches += call[0] in SEARCHES
+        if searches <= 8 or call[0] not in SEARCHES:
+            drawn.append((call, answer))
+    return drawn
+
+
+def draw_strict_condition(source):
+    """A condition that many pairs do not meet, so that several often cannot be kept together."""
+    side, word = source.randrange(2), source.randrange(2)
+    condition = source.choice([[7, side, word], [8, side, word], [6, [1, side], [0, word]], [9, side, word, 1 - word]])
+    if source.randrange(3) == 0:
+        condition = [4, condition]
+    other = draw(source, "c", 2)
+    return [source.choice([2, 3]), condition, other] if source.randrange(2) else condition
+
+
 class AgainstModel(unittest.TestCase):
     def test_many_lists(self):
         source = random.Random(20261118)
         for _ in range(1500):
+            drawn = draw_list(source)
+            self.assertEqual(ask(*[call for call, answer in drawn]), [answer for call, answer in drawn])
+
+    def test_many_checks_at_once(self):
+        source = random.Random(20261119)
+        for _ in range(300):
             model = Model()
-            drawn = [draw_call(source, model) for _ in range(source.randrange(1, 31))]
+            drawn = []
+            for _ in range(source.randrange(2, 9)):
+                must = draw_strict_condition(source)
+                drawn.append((check([0], flat(must)), model.check([0], must)))
+            if source.randrange(2):
+                drawn.append(draw_change(source, model, "gone"))
+            n = source.choice([0, 1, 2, 2, 3])
+            drawn.append((clash(n), model.clash(n)))
+            drawn += [draw_search(source, model) for _ in range(3)]
             self.assertEqual(ask(*[call for call, answer in drawn]), [answer for call, answer in drawn])
 
 

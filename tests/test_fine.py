@@ -1,25 +1,12 @@
 """fine: the first pair that breaks no check, in the order of the pairs, and its refusals."""
 
-import itertools
 import unittest
 
 from tests.helper import (
-    ALWAYS, LARGEST, NEVER, ask, at_most, begins, both, check, either, ends, fine, followed, gone, length, letters,
-    number, occurrences, opposite, run, same)
+    ALWAYS, LARGEST, NEVER, ask, asked_of, at_most, begins, both, check, either, ends, fine, followed, gone, is_pair,
+    length, letters, number, occurrences, opposite, pairs, run, same, told)
 
 BROKEN = check(ALWAYS, NEVER)
-
-
-def is_exactly(side, words):
-    """A condition that just this sentence of at most two words meets on this side."""
-    condition = same(length(side), number(len(words)))
-    if words:
-        condition = both(condition, both(begins(side, words[0]), ends(side, words[-1])))
-    return condition
-
-
-def asked_of(condition):
-    return check(ALWAYS, condition)
 
 
 class FirstPair(unittest.TestCase):
@@ -60,17 +47,12 @@ class FirstPair(unittest.TestCase):
 
     def test_each_pair_in_turn(self):
         """Each time the pair found is ruled out: they come one after another in the order of pairs."""
-        sentences = [[]] + [list(row) for size in (1, 2) for row in itertools.product([2, 5], repeat=size)]
-        pairs = [(sentence, translation) for sentence in sentences for translation in sentences]
-        for first, later in zip(pairs, pairs[1:]):
-            one_of_two = either(
-                both(is_exactly(0, later[0]), is_exactly(1, later[1])),
-                both(is_exactly(0, first[0]), is_exactly(1, first[1])))
-            for condition, pair in (
-                    (one_of_two, first),
-                    (both(one_of_two, opposite(both(is_exactly(0, first[0]), is_exactly(1, first[1])))), later)):
+        in_order = pairs([2, 5], 2)
+        for first, later in zip(in_order, in_order[1:]):
+            one_of_two = either(is_pair(*later), is_pair(*first))
+            for condition, pair in ((one_of_two, first), (both(one_of_two, opposite(is_pair(*first))), later)):
                 answered = ask(letters([2, 5]), asked_of(condition), fine(2))
-                self.assertEqual(answered[2], [len(pair[0])] + pair[0] + [len(pair[1])] + pair[1])
+                self.assertEqual(answered[2], told(pair))
 
     def test_checks_that_are_gone_do_not_count(self):
         answered = ask(BROKEN, asked_of(begins(0, 1)), fine(1), gone(0), fine(1), gone(1), fine(1))

@@ -23,6 +23,7 @@ METHODS_OF_PYTHON = set(
     "append clear copy count endswith extend find get index insert isalnum isalpha isdigit islower isspace isupper "
     "items join keys ljust lower lstrip partition pop remove replace reverse rfind rjust rpartition rsplit rstrip "
     "setdefault split splitlines startswith strip update upper values zfill bit_length".split())
+METHODS_THAT_CHANGE = set("append clear extend insert pop remove reverse setdefault update".split())
 WORDS_NOT_USED = re.compile(
     r"\b(type|typing|typing_extensions|enum|Enum|IntEnum|StrEnum|Flag|IntFlag|Generic|Protocol|ABC|ABCMeta|namedtuple"
     r"|NamedTuple|TypedDict|TYPE_CHECKING|abstractmethod)\b|dataclass|overload|contextmanager")
@@ -61,6 +62,61 @@ class Language(unittest.TestCase):
             self.assertEqual(node.orelse, [], name)
         for name, node in nodes(ast.Assign):
             self.assertEqual([type(target) == ast.Tuple for target in node.targets], [False], name)
+
+    def test_comprehensions_comparisons_and_lambdas(self):
+        for name, node in nodes(ast.ListComp):
+            self.assertEqual(len(node.generators), 1, name)
+            self.assertLessEqual(len(node.generators[0].ifs), 1, name)
+        for name, node in nodes(ast.Compare):
+            for operator, right in zip(node.ops, node.comparators):
+                if isinstance(operator, (ast.Is, ast.IsNot)):
+                    self.assertIn(getattr(right, "value", 0), (None, True, False), name)
+        lines = [(name, node.lineno) for name, node in nodes(ast.Lambda)]
+        self.assertEqual(len(lines), len(set(lines)))
+
+    def test_operators_and_texts(self):
+        for name, node in nodes((ast.Div, ast.MatMult, ast.Pow)):
+            self.fail(f"{name}: an operator that is not used")
+        for name, node in nodes(ast.Constant):
+            if isinstance(node.value, str):
+                self.assertNotIn("%", node.value, name)
+
+    def test_what_a_loop_walks_is_not_bound_or_changed_in_it(self):
+        for name, node in nodes(ast.For):
+            walked = {ast.dump(part) for part in ast.walk(node.iter) if isinstance(part, (ast.Name, ast.Attribute))}
+            for part in [inner for line in node.body for inner in ast.walk(line)]:
+                if isinstance(part, ast.Attribute) and part.attr in METHODS_THAT_CHANGE:
+                    self.assertNotIn(ast.dump(part.value), walked, name)
+                if isinstance(part, (ast.Assign, ast.AugAssign)):
+                    for target in getattr(part, "targets", None) or [part.target]:
+                        place = target.value if isinstance(target, ast.Subscript) else target
+                        self.assertNotIn(ast.dump(place).replace("Store()", "Load()"), walked, name)
+
+    def test_names_of_a_file_are_bound_once(self):
+        for path in FILES:
+            bound = []
+            tree = ast.parse(path.read_text())
+            for part in tree.body:
+                if isinstance(part, (ast.FunctionDef, ast.ClassDef)):
+                    bound.append(part.name)
+                if isinstance(part, ast.ImportFrom):
+                    bound.extend(imported.name for imported in part.names)
+                if isinstance(part, ast.Assign):
+                    bound.append(part.targets[0].id)
+            self.assertEqual(len(bound), len(set(bound)), path.name)
+            inner = [node for part in tree.body if not isinstance(part, ast.Assign) for node in ast.walk(part)]
+            given = {node.arg for node in inner if isinstance(node, ast.arg)}
+            given |= {node.id for node in inner if isinstance(node, ast.Name) and isinstance(node.ctx, ast.Store)}
+            self.assertEqual(given & set(bound), set(), path.name)
+
+    def test_no_two_files_draw_from_one_another(self):
+        drawn = {path.stem: set() for path in FILES}
+        for name, node in nodes(ast.ImportFrom):
+            drawn[name[:-len(".py")]].add(node.module.split(".")[1])
+        while drawn:
+            free = [name for name, sources in drawn.items() if not sources & set(drawn)]
+            self.assertNotEqual(free, [], drawn)
+            drawn = {name: sources for name, sources in drawn.items() if name not in free}
 
     def test_only_a_module_has_a_text_by_itself(self):
         for name, node in nodes((ast.FunctionDef, ast.ClassDef)):
